@@ -1,7 +1,8 @@
-"""Frames of bars and joints in the plane: which bars are kept, and which joints they fix to one another.
+"""Frames of bars and joints in the plane: which bars are kept, which joints they fix to one another,
+which bars hold two joints, and which bars are spare.
 
 A refusal is a list of its number alone: -2 for what is no frame, or an argument not as told;
--1 for more to tell than was asked for.
+-3 for a frame of which the question can't be asked; -1 for more to tell than was asked for.
 """
 
 MOST_JOINTS = 32
@@ -83,6 +84,11 @@ def is_frame(n, bars):
     return True
 
 
+def are_two_joints(n, u, v):
+    """Whether u and v are two different joints of n."""
+    return min(u, v) >= 0 and max(u, v) < n and u != v
+
+
 def lay_kept(pebbles, bars):
     """Lay those bars that are kept; a list of their numbers."""
     kept = []
@@ -124,6 +130,35 @@ def fixed_sets(masks):
     return sorted(found)
 
 
+def is_between(bars, i, u, v):
+    """Whether bar i is between u and v, either way round."""
+    ends = (bars[2 * i], bars[2 * i + 1])
+    return ends == (u, v) or ends == (v, u)
+
+
+def holds(n, bars, others, u, v):
+    """Whether a bar between u and v isn't in order with those bars whose numbers are in others."""
+    pebbles = Pebbles(n)
+    for i in others:
+        pebbles.lay(bars[2 * i], bars[2 * i + 1])
+    return not pebbles.allows(u, v)
+
+
+def needed_bars(n, bars, kept, u, v):
+    """The numbers of those kept bars of which any one, taken away, lets a bar between u and v be in order."""
+    needed = []
+    for i in kept:
+        others = [k for k in kept if k != i]
+        if not holds(n, bars, others, u, v):
+            needed.append(i)
+    return needed
+
+
+def count_kept_without(n, bars, i):
+    """How many bars are kept if bar i is left out."""
+    return len(lay_kept(Pebbles(n), bars[:2 * i] + bars[2 * i + 2:]))
+
+
 def ri_kept(n, bars):
     """How many bars are kept, then their mask."""
     if not is_frame(n, bars):
@@ -142,3 +177,24 @@ def ri_parts(n, most, bars):
     if len(sets) > most:
         return [-1]
     return [len(sets)] + sets
+
+
+def ri_holds(n, u, v, bars):
+    """How many kept bars there are of which each is needed to fix u and v to one another, then their mask."""
+    if not is_frame(n, bars) or not are_two_joints(n, u, v):
+        return [-2]
+    kept = lay_kept(Pebbles(n), bars)
+    # A kept bar between the two fixes them as well, so holds alone can't tell that case.
+    if any([is_between(bars, i, u, v) for i in kept]) or not holds(n, bars, kept, u, v):
+        return [-3]
+    needed = needed_bars(n, bars, kept, u, v)
+    return [len(needed)] + bar_mask(needed)
+
+
+def ri_spare(n, bars):
+    """How many bars there are without which, one by one, as many would be kept, then their mask."""
+    if not is_frame(n, bars):
+        return [-2]
+    many = len(lay_kept(Pebbles(n), bars))
+    spare = [i for i in range(len(bars) // 2) if count_kept_without(n, bars, i) == many]
+    return [len(spare)] + bar_mask(spare)

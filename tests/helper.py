@@ -37,18 +37,28 @@ def shuffled(things, seed):
     return mixed
 
 
-@lru_cache(maxsize=128)
-def chosen_counts(bars):
-    """Of all choices of these bars (a mask of joints each): how many are chosen, and which joints they touch."""
-    counts = [(0, 0)]
-    for bar in bars:
-        counts += [(many + 1, touched | bar) for many, touched in counts]
-    return counts
+@lru_cache(maxsize=1024)
+def most_chosen(bars):
+    """Over all choices of these bars (a mask of joints each): the most that are chosen, by which joints they touch."""
+    if not bars:
+        return {0: 0}
+    without = most_chosen(bars[:-1])
+    most = dict(without)
+    for touched, many in without.items():
+        now = touched | bars[-1]
+        most[now] = max(most.get(now, 0), many + 1)
+    return most
 
 
 def in_order(pairs):
-    bars = tuple(sorted(set((1 << a) | (1 << b) for a, b in pairs)))
-    return all(many <= 2 * touched.bit_count() - 3 for many, touched in chosen_counts(bars) if many)
+    bars = tuple(dict.fromkeys((1 << a) | (1 << b) for a, b in pairs))
+    return all(many <= 2 * touched.bit_count() - 3 for touched, many in most_chosen(bars).items() if touched)
+
+
+def in_order_one_by_one(pairs):
+    """The same as in_order, each choice of bars by itself."""
+    choices = [some for many in range(1, len(pairs) + 1) for some in combinations(pairs, many)]
+    return all(len(some) <= 2 * len(set(flat(some))) - 3 for some in choices)
 
 
 def counted_kept(pairs):
@@ -59,11 +69,28 @@ def counted_kept(pairs):
     return kept
 
 
+def count_and_mask(numbers):
+    """How many bars, then their mask."""
+    return [len(numbers)] + [sum(1 << (i - 32 * w) for i in numbers if i // 32 == w) for w in range(3)]
+
+
 def kept_by_words(pairs):
     """What ri_kept is to answer."""
+    return count_and_mask(counted_kept(pairs))
+
+
+def holds_by_words(u, v, pairs):
+    """What ri_holds is to answer where u and v are two joints of the frame."""
     kept = counted_kept(pairs)
-    words = [sum(1 << (i - 32 * w) for i in kept if i // 32 == w) for w in range(3)]
-    return [len(kept)] + words
+    if {u, v} in [set(pairs[i]) for i in kept] or in_order([pairs[i] for i in kept] + [(u, v)]):
+        return [-3]
+    return count_and_mask([i for i in kept if in_order([pairs[k] for k in kept if k != i] + [(u, v)])])
+
+
+def spare_by_words(pairs):
+    """What ri_spare is to answer."""
+    many = len(counted_kept(pairs))
+    return count_and_mask([i for i in range(len(pairs)) if len(counted_kept(pairs[:i] + pairs[i + 1:])) == many])
 
 
 def parts_by_words(n, pairs):

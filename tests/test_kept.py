@@ -4,7 +4,8 @@ import unittest
 
 from barframe.frames import ri_kept
 from tests.helper import (
-    NO_FRAMES, SQUARE, Untouched, all_pairs, flat, in_order, kept_by_words, shuffled, small_frames, turned,
+    NO_FRAMES, SQUARE, Untouched, all_pairs, flat, in_order, in_order_one_by_one, kept_by_words, shuffled,
+    small_frames, turned,
 )
 
 
@@ -69,6 +70,11 @@ class ByTheWords(unittest.TestCase):
         self.assertTrue(in_order([(0, 1)]))
         self.assertTrue(in_order(SQUARE + [(0, 2)]))
         self.assertFalse(in_order(SQUARE + [(0, 2), (1, 3)]))
+
+    def test_in_order_is_the_count_of_each_choice(self):
+        for n, pairs in small_frames():
+            if len(pairs) <= 10:
+                self.assertEqual(in_order(pairs), in_order_one_by_one(pairs), pairs)
 
     def test_small_frames(self):
         for n, pairs in small_frames():

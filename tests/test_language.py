@@ -118,6 +118,11 @@ class Silence(unittest.TestCase):
             frames.ri_kept(0, [])
             frames.ri_parts(3, 5, [0, 1])
             frames.ri_parts(3, 0, [0, 1])
+            frames.ri_holds(4, 1, 3, [0, 1, 1, 2, 2, 3, 3, 0, 0, 2])
+            frames.ri_holds(4, 1, 3, [])
+            frames.ri_holds(4, 1, 1, [])
+            frames.ri_spare(3, [0, 1])
+            frames.ri_spare(0, [])
         self.assertEqual(out.getvalue(), "")
 
 
