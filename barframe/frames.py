@@ -1,5 +1,6 @@
 """Frames of bars and joints in the plane: which bars are kept, which joints they fix to one another,
-which bars hold two joints, and which bars are spare.
+which bars hold two joints, which bars are spare, how a frame is taken apart, and, where the joints stand at
+given places, how many equations its bars tell.
 
 A refusal is a list of its number alone: -2 for what is no frame, or an argument not as told;
 -3 for a frame of which the question can't be asked; -1 for more to tell than was asked for.
@@ -8,6 +9,10 @@ A refusal is a list of its number alone: -2 for what is no frame, or an argument
 MOST_JOINTS = 32
 MOST_BARS = 96
 WORD_BITS = 32
+# What a row of a joint with two bars has in the place of a third joint and of a bar that comes.
+EMPTY = 255
+MOST_PLACED_JOINTS = 12
+FARTHEST = 1000
 
 
 class Pebbles:
@@ -159,6 +164,105 @@ def count_kept_without(n, bars, i):
     return len(lay_kept(Pebbles(n), bars[:2 * i] + bars[2 * i + 2:]))
 
 
+def far_ends(pairs, joint):
+    """The joints, rising, to which a bar goes from joint."""
+    return sorted([pair[0] + pair[1] - joint for pair in pairs if joint in pair])
+
+
+def least_joint(n, pairs, many):
+    """The least joint with just so many bars, None if there is none."""
+    for joint in range(n):
+        if len(far_ends(pairs, joint)) == many:
+            return joint
+    return None
+
+
+def first_in_order(n, pairs, choices):
+    """The number of the first choice that is in order as a bar together with pairs, one of them at least being so."""
+    pebbles = Pebbles(n)
+    for pair in pairs:
+        pebbles.lay(pair[0], pair[1])
+    # Two joints that have a bar already never have all four pebbles free, so they are passed over here too.
+    which = 0
+    while not pebbles.allows(choices[which][0], choices[which][1]):
+        which += 1
+    return which
+
+
+def taken_apart(n, bars):
+    """The rows that tell how a frame of 2 n - 3 bars, all of them kept, is taken apart."""
+    pairs = [(bars[i], bars[i + 1]) for i in range(0, len(bars), 2)]
+    rows = []
+    while len(rows) < n - 2:
+        # 2 j - 3 bars among j joints are too few for four at each joint, and no joint has one bar alone,
+        # or the others would have too many. So some joint has two or three.
+        joint = least_joint(n, pairs, 2)
+        if joint is None:
+            joint = least_joint(n, pairs, 3)
+        far = far_ends(pairs, joint)
+        pairs = [pair for pair in pairs if joint not in pair]
+        if len(far) == 2:
+            rows.append([joint] + far + [EMPTY, EMPTY])
+        else:
+            choices = [(far[0], far[1]), (far[0], far[2]), (far[1], far[2])]
+            which = first_in_order(n, pairs, choices)
+            pairs = pairs + [choices[which]]
+            rows.append([joint] + far + [which])
+    return rows
+
+
+def are_places(xy):
+    """Whether no number of xy is farther out than a place may be."""
+    return all([abs(number) <= FARTHEST for number in xy])
+
+
+def equation(n, a, b, xy):
+    """What a bar between a and b tells: the factors of what joints 0, 1 .. move, along x and along y for each."""
+    factors = [0] * (2 * n)
+    for axis in range(2):
+        apart = xy[2 * a + axis] - xy[2 * b + axis]
+        factors[2 * a + axis] = apart
+        factors[2 * b + axis] = -apart
+    return factors
+
+
+def bar_equations(n, bars, xy):
+    """The equations of all bars."""
+    return [equation(n, bars[i], bars[i + 1], xy) for i in range(0, len(bars), 2)]
+
+
+def first_with(rows, column):
+    """The number of the first row that isn't 0 in this column, None if there is none."""
+    for k in range(len(rows)):
+        if rows[k][column] != 0:
+            return k
+    return None
+
+
+def cleared(row, lead, column, before):
+    """The row, made 0 in this column by means of lead."""
+    # before is what the lead ahead of this one had in its own column. It divides evenly, since what comes out is
+    # a determinant of the equations' own numbers; without it the numbers would double in length each time.
+    return [(row[k] * lead[column] - lead[k] * row[column]) // before for k in range(len(row))]
+
+
+def count_needed(rows):
+    """How many of these rows, as equations, are needed from which all others follow."""
+    left = list(rows)
+    needed = 0
+    before = 1
+    column = 0
+    while len(left) > 0 and column < len(left[0]):
+        k = first_with(left, column)
+        if k is not None:
+            lead = left.pop(k)
+            left = [cleared(row, lead, column, before) for row in left]
+            before = lead[column]
+            needed += 1
+        column += 1
+    return needed
+
+
 def ri_kept(n, bars):
     """How many bars are kept, then their mask."""
     if not is_frame(n, bars):
@@ -198,3 +302,28 @@ def ri_spare(n, bars):
     many = len(lay_kept(Pebbles(n), bars))
     spare = [i for i in range(len(bars) // 2) if count_kept_without(n, bars, i) == many]
     return [len(spare)] + bar_mask(spare)
+
+
+def ri_steps(n, most, bars):
+    """How many rows tell how the frame is taken apart till two joints are left, then the rows, five numbers each."""
+    if most < 0 or not is_frame(n, bars):
+        return [-2]
+    many = len(bars) // 2
+    if many != 2 * n - 3 or len(lay_kept(Pebbles(n), bars)) != many:
+        return [-3]
+    rows = taken_apart(n, bars)
+    if len(rows) > most:
+        return [-1]
+    answer = [len(rows)]
+    for row in rows:
+        answer.extend(row)
+    return answer
+
+
+def ri_rank(n, bars, xy):
+    """How many of the bars' equations are needed from which all others follow, the joints standing at xy."""
+    if not is_frame(n, bars) or not are_places(xy):
+        return [-2]
+    if n > MOST_PLACED_JOINTS:
+        return [-3]
+    return [count_needed(bar_equations(n, bars, xy))]

@@ -1,5 +1,6 @@
 """What the tests share: frames by name, and the document's words counted out with no short cut."""
 
+from fractions import Fraction
 from functools import lru_cache
 from itertools import combinations
 
@@ -108,6 +109,98 @@ def parts_by_words(n, pairs):
         if is_set(joints) and not any(is_set(sorted(joints + [v])) for v in others):
             masks.append(mask)
     return [len(masks)] + masks
+
+
+def steps_by_words(n, pairs):
+    """What ri_steps is to answer where most is high enough."""
+    if len(counted_kept(pairs)) != len(pairs) or len(pairs) != 2 * n - 3:
+        return [-3]
+    left = {frozenset(pair) for pair in pairs}
+    joints = set(range(n))
+    rows = []
+    while len(joints) > 2:
+        with_two = [v for v in joints if sum(v in bar for bar in left) == 2]
+        with_three = [v for v in joints if sum(v in bar for bar in left) == 3]
+        joint = min(with_two or with_three)
+        others = sorted(v for v in joints if {joint, v} in left)
+        joints.remove(joint)
+        left = {bar for bar in left if joint not in bar}
+        if with_two:
+            rows.append([joint] + others + [255, 255])
+        else:
+            a, b, c = others
+            come = [(w, pair) for w, pair in enumerate([(a, b), (a, c), (b, c)]) if set(pair) not in left]
+            which, pair = [(w, pair) for w, pair in come if in_order([tuple(bar) for bar in left] + [pair])][0]
+            left.add(frozenset(pair))
+            rows.append([joint, a, b, c, which])
+    return [len(rows)] + flat(rows)
+
+
+def told(pair, places, moves):
+    """What a bar tells to be 0."""
+    a, b = pair
+    return sum((moves[a][k] - moves[b][k]) * (places[a][k] - places[b][k]) for k in (0, 1))
+
+
+def needed_by_fractions(rows):
+    """How many of these equations are needed from which all others follow, taken in one by one."""
+    leads = {}
+    for row in rows:
+        row = [Fraction(number) for number in row]
+        for k, lead in sorted(leads.items()):
+            times = row[k]
+            if times:
+                row = [number - times * other for number, other in zip(row, lead)]
+        first = [k for k, number in enumerate(row) if number][:1]
+        if first:
+            leads[first[0]] = [number / row[first[0]] for number in row]
+    return len(leads)
+
+
+def rank_by_words(n, pairs, places):
+    """What ri_rank is to answer where n is 12 at the most."""
+    one_by_one = [[(int(k == 2 * v), int(k == 2 * v + 1)) for v in range(n)] for k in range(2 * n)]
+    rows = [[told(pair, places, moves) for moves in one_by_one] for pair in pairs]
+    return [needed_by_fractions(rows)]
+
+
+def some_places(n, reach, seed):
+    """Places from -reach to reach, the same every time."""
+    places = []
+    for v in range(n):
+        seed = (seed * 1103515245 + 12345) % 2147483648
+        places.append(((seed >> 4) % (2 * reach + 1) - reach, (seed >> 17) % (2 * reach + 1) - reach))
+    return places
+
+
+def full_frame(n, seed):
+    """2 n - 3 bars that are all kept, made joint by joint; not often with a joint that has two bars."""
+    pairs = [(0, 1)]
+    for v in range(2, n):
+        mixed = shuffled(range(v), seed + v)
+        if v == 2 or (seed >> v) % 5 == 0:
+            pairs += [(mixed[0], v), (mixed[1], v)]
+        else:
+            a, b = pairs.pop(shuffled(range(len(pairs)), seed * v)[0])
+            c = [u for u in mixed if u not in (a, b)][0]
+            pairs += [(a, v), (b, v), (c, v)]
+    names = shuffled(range(n), 7 * seed)
+    return shuffled([(names[a], names[b]) for a, b in pairs], seed)
+
+
+def full_frames():
+    """(n, pairs): every frame of up to 5 joints that has 2 n - 3 bars, all kept; those of 6 with three bars at each
+    joint; and a walk through the others of 6, 7 and 8."""
+    for n in (2, 3, 4, 5):
+        for bars in combinations(all_pairs(range(n)), 2 * n - 3):
+            if in_order(bars):
+                yield n, list(bars)
+    for bars in combinations(all_pairs(range(6)), 9):
+        if all(sum(v in bar for bar in bars) == 3 for v in range(6)) and in_order(bars):
+            yield 6, list(bars)
+    for n in (6, 7, 8):
+        for seed in range(200):
+            yield n, full_frame(n, 1009 * seed + n)
 
 
 def small_frames():

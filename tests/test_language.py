@@ -123,6 +123,13 @@ class Silence(unittest.TestCase):
             frames.ri_holds(4, 1, 1, [])
             frames.ri_spare(3, [0, 1])
             frames.ri_spare(0, [])
+            frames.ri_steps(3, 1, [0, 1, 1, 2, 2, 0])
+            frames.ri_steps(3, 0, [0, 1, 1, 2, 2, 0])
+            frames.ri_steps(3, 1, [])
+            frames.ri_steps(0, 1, [])
+            frames.ri_rank(3, [0, 1, 1, 2, 2, 0], [0, 0, 1, 0, 0, 1])
+            frames.ri_rank(13, [], [0] * 26)
+            frames.ri_rank(0, [], [])
         self.assertEqual(out.getvalue(), "")
 
 
