@@ -1,6 +1,6 @@
 """Frames of bars and joints in the plane: which bars are kept, which joints they fix to one another,
 which bars hold two joints, which bars are spare, how a frame is taken apart, and, where the joints stand at
-given places, how many equations its bars tell.
+given places, how many equations its bars tell and whether two joints can move against one another.
 
 A refusal is a list of its number alone: -2 for what is no frame, or an argument not as told;
 -3 for a frame of which the question can't be asked; -1 for more to tell than was asked for.
@@ -327,3 +327,14 @@ def ri_rank(n, bars, xy):
     if n > MOST_PLACED_JOINTS:
         return [-3]
     return [count_needed(bar_equations(n, bars, xy))]
+
+
+def ri_moves(n, u, v, bars, xy):
+    """1 if joints standing at xy can move as the bars allow, but not as a bar between u and v would; else 0."""
+    if not is_frame(n, bars) or not are_two_joints(n, u, v) or not are_places(xy):
+        return [-2]
+    if n > MOST_PLACED_JOINTS:
+        return [-3]
+    rows = bar_equations(n, bars, xy)
+    # An equation that follows from the others doesn't raise how many are needed; any other raises it by 1.
+    return [count_needed(rows + [equation(n, u, v, xy)]) - count_needed(rows)]

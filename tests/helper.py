@@ -38,6 +38,25 @@ def shuffled(things, seed):
     return mixed
 
 
+TRIANGLE = all_pairs((0, 1, 2))
+PRISM = all_pairs((0, 1, 2)) + all_pairs((3, 4, 5)) + [(0, 3), (1, 4), (2, 5)]
+THREE_BY_THREE = [(a, b) for a in (0, 1, 2) for b in (3, 4, 5)]
+
+# Places for a square.
+CORNERS = [(0, 0), (10, 0), (10, 10), (0, 10)]
+# Places for a prism: where it keeps its shape, where its three bars go the same way, where they meet.
+APART = [(0, 0), (10, 0), (4, 7), (1, 20), (13, 22), (3, 29)]
+LEVEL = [(0, 0), (10, 0), (4, 7), (0, 20), (10, 20), (4, 27)]
+MEETING = [(1, 0), (0, 1), (-1, -1), (2, 0), (0, 3), (-4, -4)]
+CIRCLE = [(5, 0), (3, 4), (-3, 4), (-5, 0), (4, -3), (0, 5)]
+# Twelve places, each with an x or a y as far out as may be.
+ALL_ROUND = [
+    (-1000, -1000), (1000, -1000), (1000, 1000), (-1000, 1000), (-1000, -500), (-1000, 3), (1000, -7), (1000, 501),
+    (-999, -1000), (13, -1000), (11, 1000), (999, 1000),
+]
+OUTSIDE = (-2147483648, -1000000, -1002, -1001, 1001, 1002, 1000000, 2147483647)
+
+
 @lru_cache(maxsize=1024)
 def most_chosen(bars):
     """Over all choices of these bars (a mask of joints each): the most that are chosen, by which joints they touch."""
@@ -142,26 +161,51 @@ def told(pair, places, moves):
     return sum((moves[a][k] - moves[b][k]) * (places[a][k] - places[b][k]) for k in (0, 1))
 
 
-def needed_by_fractions(rows):
-    """How many of these equations are needed from which all others follow, taken in one by one."""
+def solved(rows):
+    """The equations needed from which all others follow, taken in one by one: what is 1 in its own column and 0 in
+    those of the others, by that column."""
     leads = {}
     for row in rows:
         row = [Fraction(number) for number in row]
-        for k, lead in sorted(leads.items()):
-            times = row[k]
-            if times:
-                row = [number - times * other for number, other in zip(row, lead)]
+        for k, lead in leads.items():
+            row = less(row, row[k], lead)
         first = [k for k, number in enumerate(row) if number][:1]
         if first:
-            leads[first[0]] = [number / row[first[0]] for number in row]
-    return len(leads)
+            row = [number / row[first[0]] for number in row]
+            leads = {k: less(lead, lead[first[0]], row) for k, lead in leads.items()}
+            leads[first[0]] = row
+    return leads
+
+
+def less(row, times, other):
+    return [a - times * b for a, b in zip(row, other)] if times else row
+
+
+def rows_by_words(n, pairs, places):
+    """What each bar tells when one joint alone moves by 1, along x or along y."""
+    one_by_one = [[(int(k == 2 * v), int(k == 2 * v + 1)) for v in range(n)] for k in range(2 * n)]
+    return [[told(pair, places, moves) for moves in one_by_one] for pair in pairs]
 
 
 def rank_by_words(n, pairs, places):
     """What ri_rank is to answer where n is 12 at the most."""
-    one_by_one = [[(int(k == 2 * v), int(k == 2 * v + 1)) for v in range(n)] for k in range(2 * n)]
-    rows = [[told(pair, places, moves) for moves in one_by_one] for pair in pairs]
-    return [needed_by_fractions(rows)]
+    return [len(solved(rows_by_words(n, pairs, places)))]
+
+
+def ways_to_move(n, pairs, places):
+    """Ways in which the joints can move as all bars allow; any other is made up of these."""
+    leads = solved(rows_by_words(n, pairs, places))
+    ways = []
+    for free in range(2 * n):
+        if free not in leads:
+            numbers = [-leads[k][free] if k in leads else Fraction(k == free) for k in range(2 * n)]
+            ways.append([(numbers[2 * v], numbers[2 * v + 1]) for v in range(n)])
+    return ways
+
+
+def moves_by_words(u, v, ways, places):
+    """What ri_moves is to answer where n is 12 at the most, by the ways in which the joints can move."""
+    return [int(any(told((u, v), places, moves) != 0 for moves in ways))]
 
 
 def some_places(n, reach, seed):

@@ -90,7 +90,8 @@ class Language(unittest.TestCase):
                 if isinstance(node, (ast.For, ast.While)):
                     self.assertEqual(node.orelse, [], (name, node.lineno))
                 if isinstance(node, ast.Constant):
-                    self.assertIn(node.value.__class__.__name__, ("int", "str", "bool", "NoneType"), (name, node.lineno))
+                    kind = node.value.__class__.__name__
+                    self.assertIn(kind, ("int", "str", "bool", "NoneType"), (name, node.lineno))
 
     def test_names(self):
         for name, tree in trees():
@@ -130,6 +131,10 @@ class Silence(unittest.TestCase):
             frames.ri_rank(3, [0, 1, 1, 2, 2, 0], [0, 0, 1, 0, 0, 1])
             frames.ri_rank(13, [], [0] * 26)
             frames.ri_rank(0, [], [])
+            frames.ri_moves(3, 0, 2, [0, 1, 1, 2], [0, 0, 1, 0, 0, 1])
+            frames.ri_moves(3, 0, 2, [0, 1, 1, 2], [0, 0, 1, 0, 2, 0])
+            frames.ri_moves(13, 0, 1, [], [0] * 26)
+            frames.ri_moves(3, 1, 1, [], [0] * 6)
         self.assertEqual(out.getvalue(), "")
 
 

@@ -4,15 +4,9 @@ import unittest
 
 from barframe.frames import ri_kept, ri_rank
 from tests.helper import (
-    NO_FRAMES, SQUARE, Untouched, all_pairs, flat, full_frame, rank_by_words, shuffled, small_frames, some_places,
-    turned,
+    ALL_ROUND, APART, CIRCLE, CORNERS, LEVEL, MEETING, NO_FRAMES, OUTSIDE, PRISM, SQUARE, THREE_BY_THREE, TRIANGLE,
+    Untouched, all_pairs, flat, full_frame, rank_by_words, shuffled, small_frames, some_places, turned,
 )
-
-TRIANGLE = all_pairs((0, 1, 2))
-PRISM = all_pairs((0, 1, 2)) + all_pairs((3, 4, 5)) + [(0, 3), (1, 4), (2, 5)]
-THREE_BY_THREE = [(a, b) for a in (0, 1, 2) for b in (3, 4, 5)]
-CORNERS = [(0, 0), (10, 0), (10, 10), (0, 10)]
-OUTSIDE = (-2147483648, -1000000, -1002, -1001, 1001, 1002, 1000000, 2147483647)
 
 
 def rank(n, pairs, places):
@@ -90,20 +84,16 @@ class StandingBadly(Frames):
         return ri_kept(n, flat(pairs))[0]
 
     def test_prism(self):
-        apart = [(0, 0), (10, 0), (4, 7), (1, 20), (13, 22), (3, 29)]
-        level = [(0, 0), (10, 0), (4, 7), (0, 20), (10, 20), (4, 27)]
-        meeting = [(1, 0), (0, 1), (-1, -1), (2, 0), (0, 3), (-4, -4)]
         self.assertEqual(self.kept(6, PRISM), 9)
-        self.check(6, PRISM, apart, 9)
-        self.check(6, PRISM, level, 8)
-        self.check(6, PRISM, meeting, 8)
+        self.check(6, PRISM, APART, 9)
+        self.check(6, PRISM, LEVEL, 8)
+        self.check(6, PRISM, MEETING, 8)
 
     def test_three_by_three_on_a_circle(self):
-        circle = [(5, 0), (3, 4), (-3, 4), (-5, 0), (4, -3), (0, 5)]
         self.assertEqual(self.kept(6, THREE_BY_THREE), 9)
-        self.check(6, THREE_BY_THREE, circle, 8)
-        self.check(6, THREE_BY_THREE, circle[:5] + [(0, 6)], 9)
-        self.check(6, THREE_BY_THREE, [(1000 * x // 5, 1000 * y // 5) for x, y in circle], 8)
+        self.check(6, THREE_BY_THREE, CIRCLE, 8)
+        self.check(6, THREE_BY_THREE, CIRCLE[:5] + [(0, 6)], 9)
+        self.check(6, THREE_BY_THREE, [(1000 * x // 5, 1000 * y // 5) for x, y in CIRCLE], 8)
 
     def test_two_triangles_in_a_line(self):
         bars = SQUARE + [(0, 2)]
@@ -194,11 +184,9 @@ class Places(unittest.TestCase):
 
     def test_all_over_a_frame_of_12(self):
         pairs = all_pairs(range(12))
-        edges = [(-1000, -1000), (1000, -1000), (1000, 1000), (-1000, 1000)]
-        apart = edges + [(-1000, v) for v in (-500, 3)] + [(1000, v) for v in (-7, 501)]
-        apart += [(v, -1000) for v in (-999, 13)] + [(v, 1000) for v in (11, 999)]
-        self.assertEqual(rank(12, pairs, apart), [21])
-        self.assertEqual(rank_by_words(12, pairs, apart), [21])
+        edges = ALL_ROUND[:4]
+        self.assertEqual(rank(12, pairs, ALL_ROUND), [21])
+        self.assertEqual(rank_by_words(12, pairs, ALL_ROUND), [21])
         for places in (edges * 3, edges[:2] * 6, [edges[0], edges[2]] * 6, [edges[k // 3] for k in range(12)]):
             self.assertEqual(rank(12, pairs, places), rank_by_words(12, pairs, places))
 

@@ -4,14 +4,12 @@ import unittest
 
 from barframe.frames import ri_kept, ri_steps
 from tests.helper import (
-    NO_FRAMES, SQUARE, Untouched, all_pairs, flat, full_frame, full_frames, in_order, shuffled, small_frames,
-    steps_by_words, turned,
+    NO_FRAMES, PRISM, SQUARE, THREE_BY_THREE, Untouched, all_pairs, flat, full_frame, full_frames, in_order, shuffled,
+    small_frames, steps_by_words, turned,
 )
 
 LARGEST = 2147483647
 TRIANGLE = [(0, 1), (1, 2), (2, 0)]
-THREE_BY_THREE = [(a, b) for a in (0, 1, 2) for b in (3, 4, 5)]
-PRISM = all_pairs((0, 1, 2)) + all_pairs((3, 4, 5)) + [(0, 3), (1, 4), (2, 5)]
 
 
 def steps(n, pairs, most=LARGEST):
